@@ -130,10 +130,10 @@ func natDoorAhead(d, e NatDoor) bool {
 }
 
 func natDoorsApart(b NatBook) bool {
-	return natApart(b.Doors, natDoorSeat)
+	return natApart(b.Doors, NatDoor.seat)
 }
 
-func natDoorSeat(d NatDoor) natSeat {
+func (d NatDoor) seat() natSeat {
 	return natSeat{kind: d.Kind, inner: d.Inner, port: d.InnerPort}
 }
 
@@ -152,7 +152,7 @@ func natEntriesOk(b NatBook) bool {
 func natEntryOk(b NatBook, e NatEntry) bool {
 	return NatFlowOk(natEntryFlow(e)) &&
 		natIsInside(b, e.Inner) &&
-		!natIsInside(b, e.Peer) && e.Peer != b.Own &&
+		natIsPeer(b, e.Peer) &&
 		natWithin(e.Outer, b.Low, b.High) &&
 		natWithin(e.Last, 0, b.Now) && b.Now-e.Last < NatLife+NatRest
 }
@@ -162,12 +162,16 @@ func natEntriesOrdered(b NatBook) bool {
 }
 
 func natEntryAhead(d, e NatEntry) bool {
+	return natEntryOrder(d, e) < 0
+}
+
+func natEntryOrder(d, e NatEntry) int {
 	return cmp.Or(
 		cmp.Compare(d.Kind, e.Kind),
 		cmp.Compare(d.Peer, e.Peer),
 		cmp.Compare(d.PeerPort, e.PeerPort),
 		cmp.Compare(d.Outer, e.Outer),
-	) < 0
+	)
 }
 
 // natLivingApart leaves out what rests: its flow may have gone out anew, under another port.
@@ -197,6 +201,11 @@ func natSize(b NatBook) int {
 
 func natIsInside(b NatBook, addr int) bool {
 	return natWithin(addr, b.Addr, b.Addr+natSize(b)-1)
+}
+
+// natIsPeer says whether flows from inside may go there; who is inside, or has Own, is reached without a port outside.
+func natIsPeer(b NatBook, addr int) bool {
+	return !natIsInside(b, addr) && addr != b.Own
 }
 
 func natIsKind(n int) bool {
