@@ -313,17 +313,8 @@ func TestWhatMayBeShared(t *testing.T) {
 	}
 }
 
-// The book of the document's example.
 func TestExampleBook(t *testing.T) {
-	b := impl.NatBook{
-		Addr: 2560, Len: 8, Own: 51201, Low: 40, High: 41, Now: 9,
-		Doors: []impl.NatDoor{{Kind: 1, Outer: 22, Inner: 2561, InnerPort: 22}},
-		Entries: []impl.NatEntry{
-			{Kind: 1, Peer: 51202, PeerPort: 80, Outer: 40, Inner: 2562, InnerPort: 7, Last: 0},
-			{Kind: 1, Peer: 51202, PeerPort: 80, Outer: 41, Inner: 2563, InnerPort: 7, Last: 8},
-		},
-	}
-	wantOk(t, true, b, "example")
+	wantOk(t, true, exampleBook(), "example")
 }
 
 // Wild numbers everywhere at once: refused, and answered.

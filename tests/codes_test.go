@@ -2,6 +2,7 @@ package tests
 
 import (
 	"math"
+	"slices"
 	"testing"
 
 	"loop.example/ternnat/impl"
@@ -77,15 +78,18 @@ func TestOutCodeBook(t *testing.T) {
 
 // wrongBooks are plainBook with one number after the other put where it may not be.
 func wrongBooks() []impl.NatBook {
+	return wrongOf(plainBook, slices.Concat(bookFields(), doorFields(), entryFields()))
+}
+
+// wrongOf are a book with one number after the other put where it may not be.
+func wrongOf(fresh func() impl.NatBook, cases []fieldCase) []impl.NatBook {
 	var all []impl.NatBook
-	for _, cases := range [][]fieldCase{bookFields(), doorFields(), entryFields()} {
-		for _, c := range cases {
-			b := plainBook()
-			for _, v := range append(c.wrong, farFrom(*c.field(&b))...) {
-				b := plainBook()
-				*c.field(&b) = v
-				all = append(all, b)
-			}
+	for _, c := range cases {
+		b := fresh()
+		for _, v := range append(c.wrong, farFrom(*c.field(&b))...) {
+			b := fresh()
+			*c.field(&b) = v
+			all = append(all, b)
 		}
 	}
 	return all

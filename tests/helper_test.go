@@ -41,7 +41,7 @@ func withSpareRoom[T any](list []T, behind T) (given, whole []T) {
 	return whole[:len(list)], whole
 }
 
-// bookOk asks NatBookOk and NatInside of a book, with its empty lists nil, not nil, and with room behind them,
+// bookOk asks NatBookOk, NatInside and NatBoard of a book, with its empty lists nil, not nil, and with room behind them,
 // and sees that they agree and write nothing.
 func bookOk(t *testing.T, b impl.NatBook) bool {
 	t.Helper()
@@ -58,6 +58,9 @@ func bookOk(t *testing.T, b impl.NatBook) bool {
 		}
 		if impl.NatBookOk(v) != ok {
 			t.Errorf("NatBookOk changes its mind: %+v", b)
+		}
+		if text := impl.NatBoard(v); (text != "") != ok {
+			t.Errorf("NatBookOk is %v, NatBoard %q: %+v", ok, text, b)
 		}
 	}
 	if !reflect.DeepEqual(doors, doorsAhead) || !reflect.DeepEqual(entries, entriesAhead) {
